@@ -1,0 +1,1 @@
+"""Relations between finite lists of names, and claims that hold for all of them."""

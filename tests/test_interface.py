@@ -1,0 +1,61 @@
+"""Each name of the interface exists, is defined in its own file, and takes the arguments that are listed."""
+
+import importlib
+import inspect
+import unittest
+
+INTERFACE = {
+    "relations": "Relation(sources, targets, pairs); every_pair(sources, targets); no_pair(sources, targets); "
+                 "same_pairs(names); other_pairs(names)",
+    "residuals": "under(r, t); over(t, s); likeness(r, s); between(r, s, x, z); first_gap(r, s, t)",
+    "sizes": "row_counts(r); column_counts(r); sources_with(r); targets_had(r); reached(r, names); best_pairing(r); "
+             "least_touch(r); judge_pairing(r, value); judge_touch(r, value); worst_lack(r)",
+    "closing": "closed(r); walked(r); walk(r, x, y); shut(r, x, y); judge_walk(r, x, y, value); "
+               "judge_shut(r, x, y, value); knots(r)",
+    "kinds": "first_fault(r, word); has_kind(r, word); kinds_of(r); is_function(r); is_parting(r); is_order(r); "
+             "is_strict_order(r); least_with(r, words)",
+    "partings": "classes(r); parting(names, lists); least_parting(r); joined_partings(r, s); cut_partings(r, s); "
+                "all_partings(names); kernel(f); target_of(f, x)",
+    "splits": "onto_then_apart(f); is_split(f, value); between_splits(f, one, other); pair_split(r); "
+              "least_matching(r); blocks(r); zigzag(r, x, y); pen(r, x, y); judge_zigzag(r, x, y, value); "
+              "judge_pen(r, x, y, value); cross(r); heights(r); judge_heights(r, value)",
+    "laying": "laid(r); judge_laid(r, value); count_rows(r); thinned(r); layers(r); longest_chain(r); few_chains(r); "
+              "most_apart(r)",
+    "frames": "Frame(sorts, letters, totals)",
+    "terms": "ends_of(frame, term); paths(term); part_at(term, path); with_part(term, path, part)",
+    "forms": "is_flat(term); is_short(term); is_kept(term); is_plain(term); size(term); letters_in(term); "
+             "sorts_in(term); pushed(term); led_term(term, letters, sorts)",
+}
+METHODS = {
+    ("relations", "Relation"): ["sources(self)", "targets(self)", "pairs(self)", "row(self, x)", "column(self, y)",
+                                "turned(self)"],
+    ("frames", "Frame"): ["sorts(self)", "letters(self)", "totals(self)", "ends(self, name)", "has_sort(self, value)",
+                          "has_letter(self, value)", "totals_from(self, sort)"],
+}
+OPERATORS = {
+    ("relations", "Relation"): ["contains", "len", "eq", "or", "and", "sub", "invert", "rshift", "le", "lt", "ge", "gt"],
+    ("frames", "Frame"): ["eq"],
+}
+
+
+class Interface(unittest.TestCase):
+    def test_functions_and_classes(self):
+        for file, told in INTERFACE.items():
+            module = importlib.import_module(f"pairlaws.{file}")
+            for entry in told.split("; "):
+                found = vars(module)[entry.split("(")[0]]
+                self.assertEqual(found.__module__, f"pairlaws.{file}")
+                self.assertEqual(found.__name__ + str(inspect.signature(found)), entry)
+
+    def test_methods(self):
+        for (file, name), told in METHODS.items():
+            made = vars(importlib.import_module(f"pairlaws.{file}"))[name]
+            for entry in told:
+                found = vars(made)[entry.split("(")[0]]
+                self.assertEqual(found.__name__ + str(inspect.signature(found)), entry)
+            for word in OPERATORS[file, name]:
+                self.assertIn(f"__{word}__", vars(made))
+
+
+if __name__ == "__main__":
+    unittest.main()
