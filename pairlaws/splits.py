@@ -152,9 +152,9 @@ def heights(r):
     if cross(r) is not None:
         return None
     # Without a cross, of two rows the longer one contains the other, so that their lengths decide.
-    too_high = len(r.targets()) + 1
+    # If a target has no source, each row lacks it, and so is shorter than the list of the targets.
     of_sources = {x: len(r.row(x)) for x in r.sources()}
-    of_targets = {y: min([len(r.row(x)) for x in r.column(y)], default=too_high) for y in r.targets()}
+    of_targets = {y: min([len(r.row(x)) for x in r.column(y)], default=len(r.targets())) for y in r.targets()}
     return (of_sources, of_targets)
 
 
