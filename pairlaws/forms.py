@@ -37,18 +37,19 @@ def size(term):
     return len(parts_of(term))
 
 
-def _without_duplicates(names):
-    return [name for at, name in enumerate(names) if name not in names[:at]]
+def without_duplicates(values):
+    """The values in the order of their first occurrence."""
+    return [value for at, value in enumerate(values) if value not in values[:at]]
 
 
 def letters_in(term):
     """The names of the letters in a term, in the order of their first occurrence."""
-    return _without_duplicates([part[1] for _, part in parts_of(term) if part[0] == "letter"])
+    return without_duplicates([part[1] for _, part in parts_of(term) if part[0] == "letter"])
 
 
 def sorts_in(term):
     """The sorts that the term tells, in the order of their first occurrence."""
-    return _without_duplicates([sort for _, part in parts_of(term) for sort in sorts_told(part)])
+    return without_duplicates([sort for _, part in parts_of(term) for sort in sorts_told(part)])
 
 
 def _pushed_letter(term, turned, negated):

@@ -82,3 +82,9 @@ class Frame:
     def __eq__(self, other):
         return (isinstance(other, Frame) and self._sorts == other._sorts
                 and self._letters == other._letters and self._totals == other._totals)
+
+
+def led_to(frame, total):
+    """The sort to which a total of the frame is a step."""
+    name, word = total
+    return frame.ends(name)[1 if word == "on" else 0]

@@ -66,7 +66,7 @@ def parts_of(term):
     return _parts_checked(None, term)
 
 
-def _parts_inner_first(term):
+def parts_inner_first(term):
     """The list of (path, part) of all parts, each part after its own parts."""
     found = []
     waiting = [((), term)]
@@ -113,7 +113,7 @@ def ends_of(frame, term):
     """The pair of the ends of a term, which may be any value."""
     _parts_checked(frame, term)
     found = {}
-    for path, part in _parts_inner_first(term):
+    for path, part in parts_inner_first(term):
         ends = _ends_above(frame, part, [found[below] for below, _ in _below(path, part)])
         if ends is None:
             raise BadTerm(path)
@@ -121,12 +121,28 @@ def ends_of(frame, term):
     return found[()]
 
 
+def ends_behind(path, frame, term):
+    """The ends of a value that stands behind a path in something larger; BadTerm tells the whole path."""
+    try:
+        return ends_of(frame, term)
+    except BadTerm as wrong:
+        raise BadTerm(path + wrong.path) from None
+
+
+def ends_of_both(frame, claim):
+    """The ends of the two terms of a claim, which may be any value."""
+    if not isinstance(claim, tuple) or len(claim) != 2:
+        raise BadTerm(())
+    return (ends_behind((0,), frame, claim[0]), ends_behind((1,), frame, claim[1]))
+
+
 def paths(term):
     """The list of the paths of all parts, each part before its own parts."""
     return [path for path, _ in parts_of(term)]
 
 
-def _is_number_below(value, limit):
+def is_number_below(value, limit):
+    """Whether a value, which may be any value, is one of the numbers from 0 on that are less than limit."""
     return isinstance(value, int) and not isinstance(value, bool) and 0 <= value < limit
 
 
@@ -135,7 +151,7 @@ def part_at(term, path):
     part = term
     for number in path:
         below = parts_below(part)
-        if not _is_number_below(number, len(below)):
+        if not is_number_below(number, len(below)):
             raise BadTerm(path)
         part = below[number]
     return part

@@ -4,8 +4,11 @@ import itertools
 import random
 import unittest
 
+from pairlaws.books import Book
 from pairlaws.errors import NameMissing, PairError
+from pairlaws.frames import Frame
 from pairlaws.relations import Relation
+from pairlaws.worlds import World
 
 
 class Case(unittest.TestCase):
@@ -25,6 +28,16 @@ class Case(unittest.TestCase):
         self.assertEqual(written(args), before)
         return result
 
+    def told_anew(self, call, *args):
+        """No list or dict in what the call returns is another one in it, is an argument's, or comes again."""
+        first, second = call(*args), call(*args)
+        lists = lists_in(first) + lists_in(second) + lists_in(args)
+        self.assertEqual(len({id(one) for one in lists}), len(lists))
+        kept = written(second)
+        for one in lists_in(first):
+            one.clear()
+        self.assertEqual(written(call(*args)), kept)
+
     def judged(self, judge, args, right):
         """The judge says True of the right values, and False of all odd values that are not among them."""
         for value in right:
@@ -38,6 +51,12 @@ def written(value):
     """A text of a value. Other than ==, it tells True from 1, and a list from a tuple."""
     if isinstance(value, Relation):
         return f"Relation({value.sources()}, {value.targets()}, {value.pairs()})"
+    if isinstance(value, Frame):
+        return f"Frame({value.sorts()}, {value.letters()}, {value.totals()})"
+    if isinstance(value, World):
+        return f"World({written(value.frame())}, {written(value.told())})"
+    if isinstance(value, Book):
+        return f"Book({written(value.frame())}, {written(value.premises())})"
     if isinstance(value, dict):
         return "{" + ", ".join([f"{written(key)}: {written(value[key])}" for key in value]) + "}"
     if isinstance(value, (list, tuple)):
@@ -47,11 +66,20 @@ def written(value):
     return type(value).__name__
 
 
+def lists_in(value):
+    """All lists and dicts in a value."""
+    found = [value] if isinstance(value, (list, dict)) else []
+    inner = list(value.values()) if isinstance(value, dict) else value if isinstance(value, (list, tuple)) else []
+    return found + [one for part in inner for one in lists_in(part)]
+
+
 RELATION = Relation(["a"], ["a"], [("a", "a")])
+SMALL_WORLD = World(Frame(["a"], [], []), {"a": ["a"]}, {})
 NOT_WORDS = [None, 0, 1, True, False, "", "A", "1a", "a b", "a_", "abcdefghijklm", "\u00e9", "a\u00b2", "a\n",
              ("a",), (), ["a"], [], {"a": "b"}, {}, 10 ** 30]
 ODD_VALUES = NOT_WORDS + [RELATION, PairError(), ("a", "b"), ["a", "b"], [("a", "b")], ([], []), (["a"], ["b"]),
-                          [["a"]], ({}, {}), ("row", None), ("ring",), (1, 2, 3), [[], {}], (RELATION, RELATION)]
+                          [["a"]], ({}, {}), ("row", None), ("ring",), (1, 2, 3), [[], {}], (RELATION, RELATION),
+                          SMALL_WORLD, SMALL_WORLD.frame(), Book(SMALL_WORLD.frame(), [])]
 
 
 def relations_between(sources, targets):

@@ -25,16 +25,33 @@ INTERFACE = {
     "terms": "ends_of(frame, term); paths(term); part_at(term, path); with_part(term, path, part)",
     "forms": "is_flat(term); is_short(term); is_kept(term); is_plain(term); size(term); letters_in(term); "
              "sorts_in(term); pushed(term); led_term(term, letters, sorts)",
+    "termtexts": "write_term(term); read_term(frame, text)",
+    "worlds": "World(frame, things, pairs); with_pair(world, letter, x, y); without_pair(world, letter, x, y); "
+              "with_thing(world, sort, x); without_thing(world, sort, x); renamed(world, sort, names)",
+    "worths": "worth(world, term); holds_at(world, term, x, y); reason(world, term, x, y); "
+              "judge_reason(world, term, x, y, value)",
+    "books": "Book(frame, premises); with_premise(book, p, q); without_premise(book, number); "
+             "first_broken(book, world); all_broken(book, world); obeys(book, world)",
+    "worldworks": "part_of(world, things); is_whole(world, things); whole_part(world, things); "
+                  "product(world, other); summed(world, other); folded(world, classes)",
+    "ways": "is_way(frame, value); ways(frame, term); turned_way(way); made(book, way)",
+    "leads": "is_lead(way, world, value); leads(way, world); first_lead(way, world, x, y); "
+             "worth_by_ways(world, term); chosen(book, way, world, lead); lead_world(book, way, world, lead)",
 }
 METHODS = {
     ("relations", "Relation"): ["sources(self)", "targets(self)", "pairs(self)", "row(self, x)", "column(self, y)",
                                 "turned(self)"],
     ("frames", "Frame"): ["sorts(self)", "letters(self)", "totals(self)", "ends(self, name)", "has_sort(self, value)",
                           "has_letter(self, value)", "totals_from(self, sort)"],
+    ("worlds", "World"): ["frame(self)", "things(self, sort)", "relation(self, letter)", "has(self, letter, x, y)",
+                          "total(self)", "told(self)"],
+    ("books", "Book"): ["frame(self)", "premises(self)"],
 }
 OPERATORS = {
     ("relations", "Relation"): ["contains", "len", "eq", "or", "and", "sub", "invert", "rshift", "le", "lt", "ge", "gt"],
     ("frames", "Frame"): ["eq"],
+    ("worlds", "World"): ["eq"],
+    ("books", "Book"): ["len", "eq"],
 }
 
 
