@@ -11,27 +11,28 @@ PARTS_BELOW = {"letter": 0, "same": 0, "other": 0, "none": 0, "all": 0, "rest": 
 R, S, T, U = [("letter", name) for name in "rstu"]
 
 
-def chance_term(chance, ends, depth, without=()):
+def chance_term(chance, ends, depth, without=(), frame=FRAME):
     """A term with these ends, nested at most so deep, that contains none of some words."""
     first, second = ends
-    words = ["letter", "letter", "none", "all"] + (["same", "other"] if first == second else [])
+    letters = [name for name, *found in frame.letters() if tuple(found) == ends]
+    words = ["letter", "letter"] * bool(letters) + ["none", "all"] + (["same", "other"] if first == second else [])
     if depth > 1:
         words += ["rest", "turned", "joined", "cut", "then", "then"] + (["closed", "walked"] if first == second else [])
     word = chance.choice([word for word in words if word not in without])
     if word == "letter":
-        return ("letter", [name for name, *found in FRAME.letters() if tuple(found) == ends][0])
+        return ("letter", letters[0] if len(letters) == 1 else chance.choice(letters))
     if word in ("same", "other"):
         return (word, first)
     if word in ("none", "all"):
         return (word, first, second)
     if word == "turned":
-        return (word, chance_term(chance, (second, first), depth - 1, without))
+        return (word, chance_term(chance, (second, first), depth - 1, without, frame))
     if word == "then":
-        middle = chance.choice("ab")
-        return (word, chance_term(chance, (first, middle), depth - 1, without),
-                chance_term(chance, (middle, second), depth - 1, without))
+        middle = chance.choice(frame.sorts())
+        return (word, chance_term(chance, (first, middle), depth - 1, without, frame),
+                chance_term(chance, (middle, second), depth - 1, without, frame))
     inner = (*without, "then", "closed", "walked") if word == "rest" and KEPT in without else without
-    return (word, *[chance_term(chance, ends, depth - 1, inner) for _ in range(PARTS_BELOW[word])])
+    return (word, *[chance_term(chance, ends, depth - 1, inner, frame) for _ in range(PARTS_BELOW[word])])
 
 
 def chance_terms(count, depth, seed, without=()):

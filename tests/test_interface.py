@@ -37,6 +37,17 @@ INTERFACE = {
     "ways": "is_way(frame, value); ways(frame, term); turned_way(way); made(book, way)",
     "leads": "is_lead(way, world, value); leads(way, world); first_lead(way, world, x, y); "
              "worth_by_ways(world, term); chosen(book, way, world, lead); lead_world(book, way, world, lead)",
+    "leastways": "plain_ways(frame, term); way_world(frame, way); is_lead_into(way, other, value); "
+                 "lead_into(way, other); least_way(way); alike_ways(way, other); plain_leads(frame, claim)",
+    "known": "atoms_of(frame, way); Known(frame, way, branch); plain_world(frame, way, branch)",
+    "cases": "check_law(frame, claim); ways_of_law(book, claim); bound(book, claim); "
+             "is_let_by(book, claim, number, branch, leaf); first_wrong(book, claim, number, paper); leaves(paper); "
+             "weeded(book, claim, number, paper)",
+    "deciding": "decide(book, claim); holds(book, claim); decide_way(book, claim, number)",
+    "lawpapers": "judge_papers(book, claim, papers); judge_world(book, claim, world, pair); "
+                 "judge(book, claim, answer)",
+    "follows": "short_premises(book); follows(book, number); needless_ones(book); thinned_book(book); "
+               "is_thinned_book(book, value); first_unlike(book, other)",
 }
 METHODS = {
     ("relations", "Relation"): ["sources(self)", "targets(self)", "pairs(self)", "row(self, x)", "column(self, y)",
@@ -46,12 +57,14 @@ METHODS = {
     ("worlds", "World"): ["frame(self)", "things(self, sort)", "relation(self, letter)", "has(self, letter, x, y)",
                           "total(self)", "told(self)"],
     ("books", "Book"): ["frame(self)", "premises(self)"],
+    ("known", "Known"): ["classes(self)", "has_clash(self)", "surely(self, term, i, j)", "surely_so(self, term, i, j)"],
 }
 OPERATORS = {
     ("relations", "Relation"): ["contains", "len", "eq", "or", "and", "sub", "invert", "rshift", "le", "lt", "ge", "gt"],
     ("frames", "Frame"): ["eq"],
     ("worlds", "World"): ["eq"],
     ("books", "Book"): ["len", "eq"],
+    ("known", "Known"): [],
 }
 
 
