@@ -25,7 +25,7 @@ class Question:
     def _terms(self):
         """All terms that are looked at."""
         pairs = [term for rule in self.rules for term in rule]
-        return [self.goal] + [denied for denied, _, _ in self.denied_marks] + pairs
+        return [self.goal] + [mark[0] for mark in self.denied_marks] + pairs
 
 
 def _letters_in_all(frame, terms):

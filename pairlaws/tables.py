@@ -18,8 +18,10 @@ class Tables:
         self.count = len(self.sort_of)
         self.full_row = (1 << self.count) - 1
         self.first_column = sum([1 << (place * self.count) for place in range(self.count)])
-        self.row_of_sort = {sort: sum([1 << place for place, found in enumerate(self.sort_of) if found == sort])
-                            for sort in self.sort_of}
+        rows = {sort: sum([1 << place for place, found in enumerate(self.sort_of) if found == sort])
+                for sort in self.sort_of}
+        self.blocks_of_sorts = {(first, second): self.block(rows[first], rows[second])
+                                for first in rows for second in rows}
         self.same = sum([self.cell(place, place) for place in range(self.count)])
 
     def cell(self, i, j):
@@ -38,7 +40,7 @@ class Tables:
 
     def between(self, first, second):
         """The table of each place of one sort with each place of another one."""
-        return self.block(self.row_of_sort.get(first, 0), self.row_of_sort.get(second, 0))
+        return self.blocks_of_sorts.get((first, second), 0)
 
     def turned(self, table):
         return sum([1 << (at % self.count * self.count + at // self.count) for at in bits_of(table)])

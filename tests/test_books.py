@@ -9,7 +9,7 @@ from pairlaws.frames import Frame
 from pairlaws.worlds import World
 from pairlaws.worths import worth
 from tests.support import ODD_VALUES, Case
-from tests.termsupport import FLAT, FRAME, KEPT, R, S, T, U, chance_term, chance_worlds
+from tests.termsupport import FLAT, FRAME, KEPT, R, S, T, chance_term, chance_worlds
 
 THEN = ("then", R, S)
 PREMISES = [(("then", T, T), T), (R, ("turned", S)), (("rest", T), ("all", "a", "a"))]

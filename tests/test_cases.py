@@ -105,6 +105,7 @@ class LetBy(Case):
         branch = [(T01, False), (T01, True), (T02, False)]
         wrong = ODD_VALUES + [["clash"], ("clash", 0), ("held", ()), ("off",), ("off", 3), ("off", -1), ("off", True), ("off", "0"),
                               ("broken", 0, 0), ("broken", 2, 0, 0), ("broken", 0, 4, 0), ("broken", 0, 0, -1), ("holds",),
+                              ("broken", 0, -1, 2), ("broken", 0, -1, 5), ("broken", -2, 0, 1),
                               ("broken", False, 0, 1), ("broken", 0, 0, True), ("broken", 0, None, 1), asked(T01, ("held",), ("held",)),
                               (("clash",),), "clash", ("off", [0]), (["clash"],), ({},)]
         for leaf in wrong:

@@ -63,6 +63,9 @@ class Leads(Case):
         for value in (["y", "y", "x"], ("y", "y"), ("y", "y", "x", "x"), ("y", "y", "w"), ("w", "y", "x"), ("y", "y", ["x"]),
                       ("y", True, "x"), (), ("y", "y", None)):
             self.assertIs(self.unchanged(is_lead, RS, WORLD, value), False)
+        for value in ODD_VALUES + ["w", "q"]:
+            self.assertIs(is_lead((("a", "b"), ()), WORLD, (value, "w")), False)
+            self.assertIs(is_lead((("b", "a"), ()), WORLD, ("w", value)), False)
 
     def test_all_and_first(self):
         count = 0

@@ -10,7 +10,7 @@ from pairlaws.errors import BadTerm, MixedEnds, NotPlain
 from pairlaws.leastways import (alike_ways, is_lead_into, lead_into, least_way, plain_leads, plain_ways, way_world)
 from pairlaws.worths import worth
 from tests.support import ODD_VALUES, Case
-from tests.termsupport import FRAME, PLAIN, R, S, T, U, chance_term, chance_terms, chance_worlds
+from tests.termsupport import FRAME, PLAIN, R, S, T, chance_term, chance_terms, chance_worlds
 
 SAME, ALL = ("same", "a"), ("all", "a", "b")
 ONE = (("a",), (), 0, 0)
@@ -200,6 +200,8 @@ class Leads(Case):
         self.assertIs(alike_ways(way, (("a", "a"), way[1][:1], 0, 1)), None)
         self.assertIs(alike_ways(way, (way[0], way[1], 0, 0)), None)
         self.assertIs(alike_ways(cycle(4), cycle(2)), None)
+        self.assertIs(alike_ways((("a", "a"), (), 0, 0), (("a", "a", "a"), (), 0, 0)), None)
+        self.assertIs(alike_ways((("a", "a", "a"), (), 0, 0), (("a", "a"), (), 0, 0)), None)
         self.assertEqual(alike_ways(ONE, ONE), (0,))
         self.assertIs(alike_ways(ONE, (("b",), (), 0, 0)), None)
         one = (("a", "b", "a", "a"), (("t", 0, 2), ("t", 0, 3), ("r", 2, 1)), 0, 1)

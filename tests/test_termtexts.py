@@ -7,7 +7,7 @@ from pairlaws.errors import BadTerm, BadText
 from pairlaws.frames import Frame
 from pairlaws.termtexts import read_term, write_term
 from tests.support import Case
-from tests.termsupport import FRAME, R, S, T, U, chance_terms, nested
+from tests.termsupport import FRAME, R, S, T, chance_terms, nested
 
 LETTERS = "abcdefghijklmnopqrstuvwxyz"
 EXAMPLES = (

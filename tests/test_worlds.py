@@ -76,6 +76,12 @@ class Made(Case):
                 self.assertEqual(world.relation(name).pairs(), pairs[name])
                 self.assertEqual(world.relation(name).sources(), things[FRAME.ends(name)[0]])
 
+    def test_equality_of_things_alone(self):
+        frame = Frame(["a"], [], [])
+        self.assertTrue(World(frame, {"a": ["x"]}, {}) == World(frame, {"a": ["x"]}, {}))
+        self.assertFalse(World(frame, {"a": ["x"]}, {}) == World(frame, {"a": ["y"]}, {}))
+        self.assertFalse(World(frame, {"a": ["x", "y"]}, {}) == World(frame, {"a": ["y", "x"]}, {}))
+
     def test_equality(self):
         def world(frame=SMALL, things=THINGS, **pairs):
             return World(frame, things, {**PAIRS, **pairs})

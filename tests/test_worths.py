@@ -191,6 +191,10 @@ class Reasons(Case):
         self.assertIs(judge_reason(WORLD, closed, "z", "x", ("shut", ("z", "y"))), False)
         self.assertIs(judge_reason(WORLD, walked, "y", "x", ("shut", ("y", "z"))), True)
         self.assertIs(judge_reason(WORLD, walked, "y", "x", ("shut", ("z",))), False)
+        self.assertIs(judge_reason(WORLD, walked, "y", "x", ("shut", ("y",))), False)
+        self.assertIs(judge_reason(WORLD, walked, "y", "x", ("shut", ("x", "y", "z"))), False)
+        self.assertIs(judge_reason(WORLD, walked, "x", "y", ("walk", ("x",))), False)
+        self.assertIs(judge_reason(WORLD, walked, "x", "y", ("walk", ("x", "y"))), True)
         self.assertIs(judge_reason(WORLD, closed, "y", "x", ("shut", ("z",))), True)
         self.assertIs(judge_reason(WORLD, closed, "x", "x", ("shut", ("x", "y", "z"))), False)
 
