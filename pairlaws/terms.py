@@ -29,7 +29,7 @@ def sorts_told(part):
     return part[1:1 + _SORTS_TOLD.get(part[0], 0)]
 
 
-def _has_form(frame, value):
+def has_form(frame, value):
     """Whether a value, which may be any value, is a part of a right form; its own parts are not looked at."""
     if not isinstance(value, tuple) or not value:
         return False
@@ -54,7 +54,7 @@ def _parts_checked(frame, value):
     waiting = [((), value)]
     while waiting:
         path, part = waiting.pop()
-        if frame is not None and not _has_form(frame, part):
+        if frame is not None and not has_form(frame, part):
             raise BadTerm(path)
         found.append((path, part))
         waiting.extend(_below(path, part)[::-1])
@@ -101,7 +101,8 @@ def _ends_of_two(word, ends, others):
     return ends if ends == others else None
 
 
-def _ends_above(frame, part, below):
+def ends_above(frame, part, below):
+    """The ends of a part whose own parts have these ends, or None if they do not fit."""
     if len(below) == 2:
         return _ends_of_two(part[0], below[0], below[1])
     if len(below) == 1:
@@ -114,7 +115,7 @@ def ends_of(frame, term):
     _parts_checked(frame, term)
     found = {}
     for path, part in parts_inner_first(term):
-        ends = _ends_above(frame, part, [found[below] for below, _ in _below(path, part)])
+        ends = ends_above(frame, part, [found[below] for below, _ in _below(path, part)])
         if ends is None:
             raise BadTerm(path)
         found[path] = ends

@@ -34,15 +34,19 @@ def _worth_of_two(word, r, s):
     return r >> s
 
 
-def _worth(world, term):
-    if term[0] == "letter":
-        return world.relation(term[1])
-    below = [_worth(world, part) for part in parts_below(term)]
+def worth_above(world, part, below):
+    """The worth of a part whose own parts have these worths."""
+    if part[0] == "letter":
+        return world.relation(part[1])
     if len(below) == 2:
-        return _worth_of_two(term[0], below[0], below[1])
+        return _worth_of_two(part[0], below[0], below[1])
     if len(below) == 1:
-        return _worth_of_one(term[0], below[0])
-    return _worth_of_sorts(world, term)
+        return _worth_of_one(part[0], below[0])
+    return _worth_of_sorts(world, part)
+
+
+def _worth(world, term):
+    return worth_above(world, term, [_worth(world, part) for part in parts_below(term)])
 
 
 def worth(world, term):

@@ -48,6 +48,16 @@ INTERFACE = {
                  "judge(book, claim, answer)",
     "follows": "short_premises(book); follows(book, number); needless_ones(book); thinned_book(book); "
                "is_thinned_book(book, value); first_unlike(book, other)",
+    "turnings": "put_in(frame, term, name, flat); law_put_in(frame, claim, name, flat); book_put_in(book, name, flat); "
+                "defined(book, name, flat); turned_laws(frame, claim); premises_of(frame, word, letter)",
+    "counting": "all_worlds(book, sizes); count_worlds(book, sizes); alike_worlds(world, other); "
+                "unlike_worlds(book, sizes)",
+    "plans": "compiled(frame, term); first_wrong(frame, value); plan_term(frame, rows)",
+    "running": "run_plan(world, rows); row_of(world, term, x); sign_of(term, name); support_of(world, term, x, y)",
+    "differences": "world_behind(world, change); difference_of(world, term, change); "
+                   "all_differences(world, rows, change); net_difference(world, term, changes)",
+    "deeds": "in_order(book, world, views); edited(state, deed); deed_between(state, other); back(state, deed); "
+             "differences(state, other)",
 }
 METHODS = {
     ("relations", "Relation"): ["sources(self)", "targets(self)", "pairs(self)", "row(self, x)", "column(self, y)",
