@@ -3,7 +3,7 @@
 from itertools import permutations
 
 from pairlaws.errors import BadWorld, MixedFrames, TooMany
-from pairlaws.imaging import found_images
+from pairlaws.imaging import first_images
 from pairlaws.tables import bits_of
 from pairlaws.terms import ends_of, is_number_below, parts_below
 from pairlaws.worlds import World
@@ -146,8 +146,7 @@ def alike_worlds(world, other):
     """Any dict of lists of things that leads a world one to one to another one, or None."""
     if world.frame() != other.frame():
         raise MixedFrames()
-    found = found_images(world, other, True, 1)
-    return found[0] if found else None
+    return first_images(world, other, True)
 
 
 def _renamings(census):

@@ -98,7 +98,7 @@ def _settled(links, choices, changed):
 
 
 def _chosen(links, choices, at):
-    """For each choice of a spot, in order, what is left of all choices with it; those without a rest are left out."""
+    """What is left of all choices with each choice of a spot, in order, if anything is left of each."""
     found = []
     for image in bits_of(choices[at]):
         settled = _settled(links, choices[:at] + (1 << image,) + choices[at + 1:], [at])
@@ -107,23 +107,73 @@ def _chosen(links, choices, at):
     return found
 
 
+def _is_open(left):
+    """Whether a spot with these choices has more than one."""
+    return left & (left - 1) != 0
+
+
+def _is_narrower(one, other):
+    """Whether a spot has fewer choices for each of its links than another one; each is given as (choices, links)."""
+    return one[0] * other[1] < other[0] * one[1]
+
+
+def _next_open(links, choices):
+    """The open spot with the fewest choices for each of its links, or None if no spot is open."""
+    sizes = [(len(bits_of(left)), len(links[at]) + 1) for at, left in enumerate(choices)]
+    best = None
+    for at, left in enumerate(choices):
+        if _is_open(left) and (best is None or _is_narrower(sizes[at], sizes[best])):
+            best = at
+    return best
+
+
 def _found_choices(links, choices, most):
-    """The first so many, at most, of the choices that leave each spot one image and go together."""
+    """At most so many of the choices, in no order, that leave each spot one image and go together."""
     found = []
     failed = {}
-    waiting = [(0, choices, None)]
+    waiting = [(choices, None)]
     while waiting and len(found) < most:
-        at, left, count = waiting.pop()
-        # Whether the later spots have images depends on their choices alone: what failed once fails again.
+        left, count = waiting.pop()
+        # Settled choices leave to the open spots only what goes with all others: what failed once fails again.
+        key = tuple([one if _is_open(one) else 0 for one in left])
         if count is not None:
             if len(found) == count:
-                failed[left[at:]] = True
-        elif at == len(left):
-            found.append(left)
-        elif left[at:] not in failed:
-            waiting.append((at, left, len(found)))
-            waiting.extend([(at + 1, further, None) for further in _chosen(links, left, at)[::-1]])
+                failed[key] = True
+        elif key not in failed:
+            at = _next_open(links, left)
+            if at is None:
+                found.append(left)
+            else:
+                waiting.append((left, len(found)))
+                waiting.extend([(further, None) for further in _chosen(links, left, at)[::-1]])
     return found
+
+
+def _first_possible(links, several):
+    """The first of several choices that can be made to leave each spot one image, of which there is one."""
+    for choices in several[:-1]:
+        if _found_choices(links, choices, 1):
+            return choices
+    return several[-1]
+
+
+def _first_choices(links, choices):
+    """The first choices, by the places of the images, that leave each spot one image and go together, or None."""
+    if not _found_choices(links, choices, 1):
+        return None
+    left = choices
+    for at in range(len(choices)):
+        left = _first_possible(links, _chosen(links, left, at))
+    return left
+
+
+def _start(source, target, exact):
+    """The links of all spots, and the choices with which the search begins, or None if there are no images."""
+    asked = Images(source, target, exact)
+    choices = asked.first_choices()
+    links = asked.links()
+    settled = None if 0 in choices else _settled(links, choices, list(range(len(choices))))
+    return (links, settled)
 
 
 def _images_of(source, target, choices):
@@ -142,17 +192,33 @@ def _counts_of(world):
     return [len(world.things(sort)) for sort in world.frame().sorts()]
 
 
-def found_images(source, target, exact, most):
-    """The list of the first so many, at most, dicts that map each sort to the images of its things.
+def first_images(source, target, exact):
+    """The dict that maps each sort to the images of its things, first by their places, or None.
 
-    They ascend by the places of the images. The frames of the two worlds are equal.
+    The frames of the two worlds are equal. If the images are exact, they lead the source one to one to the target.
     """
     if exact and _counts_of(source) != _counts_of(target):
-        return []
-    asked = Images(source, target, exact)
-    choices = asked.first_choices()
-    links = asked.links()
-    settled = None if 0 in choices else _settled(links, choices, list(range(len(choices))))
-    if settled is None:
-        return []
-    return [_images_of(source, target, found) for found in _found_choices(links, settled, most)]
+        return None
+    links, choices = _start(source, target, exact)
+    first = None if choices is None else _first_choices(links, choices)
+    return None if first is None else _images_of(source, target, first)
+
+
+def _in_order(several, count):
+    """Choices that leave each spot one image, ascending by the places of the images, which are less than count."""
+    choices_of = {}
+    for choices in several:
+        number = 0
+        for left in choices:
+            number = number * count + bits_of(left)[0]
+        choices_of[number] = choices
+    return [choices_of[number] for number in sorted([int(number) for number in choices_of])]
+
+
+def all_images(source, target, most):
+    """The list of the dicts of all images, ascending by their places, or None if there are more than so many."""
+    links, choices = _start(source, target, False)
+    found = [] if choices is None else _found_choices(links, choices, most + 1)
+    if len(found) > most:
+        return None
+    return [_images_of(source, target, images) for images in _in_order(found, target.total() + 1)]

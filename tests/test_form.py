@@ -74,6 +74,7 @@ class Files(unittest.TestCase):
                 after.setdefault(name, []).append(node.module.split(".")[1] + ".py")
                 tree = ast.parse((FOLDER / after[name][-1]).read_text())
                 defined = [one.name for one in tree.body if isinstance(one, (ast.FunctionDef, ast.ClassDef))]
+                defined += [one.targets[0].id for one in tree.body if isinstance(one, ast.Assign)]
                 self.assertTrue(all([alias.name in defined and not alias.asname for alias in node.names]), name)
         left = {file.name for file in files()}
         while left:

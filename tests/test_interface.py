@@ -58,6 +58,17 @@ INTERFACE = {
                    "all_differences(world, rows, change); net_difference(world, term, changes)",
     "deeds": "in_order(book, world, views); edited(state, deed); deed_between(state, other); back(state, deed); "
              "differences(state, other)",
+    "stores": "Store(book, world, views)",
+    "merging": "clashes(elder, one, other); merged(elder, one, other)",
+    "branches": "elders(store, number); come_of(store, number); last_common(store, one, other); line_to(store, number); "
+                "attempt(store, action); tried(store, deeds); would(store, deeds)",
+    "storetexts": "write_deed(deed); read_deed(frame, text); write_store(store); read_store(frame, text)",
+    "maps": "WorldMap(source, target, images); same_map(world); all_maps(source, target); first_map(source, target); "
+            "first_exact(source, target)",
+    "images": "led_relation(m, a, b, r); fetched_relation(m, a, b, s); first_unkept(m, term); first_gained(m, term); "
+              "is_apart_map(m); is_onto_map(m); is_fold(m); is_embedding(m); back_of_map(m); kernel_of_map(m, sort); "
+              "three_steps(m); is_three_steps(m, value); steps_between(m, one, other)",
+    "led": "renaming_map(world, names); led_deed(m, deed); led_state(m, state)",
 }
 METHODS = {
     ("relations", "Relation"): ["sources(self)", "targets(self)", "pairs(self)", "row(self, x)", "column(self, y)",
@@ -68,6 +79,11 @@ METHODS = {
                           "total(self)", "told(self)"],
     ("books", "Book"): ["frame(self)", "premises(self)"],
     ("known", "Known"): ["classes(self)", "has_clash(self)", "surely(self, term, i, j)", "surely_so(self, term, i, j)"],
+    ("stores", "Store"): ["do(self, deed)", "present(self)", "now(self)", "state(self, number)", "log(self)", "frame(self)",
+                          "worth_of(self, word)", "worth_at(self, number, word)", "undo(self)", "again(self)",
+                          "branch(self, name)", "go(self, name)", "here(self)", "branches(self)", "trail(self, name)",
+                          "mark(self, name)", "merge(self, name)", "twin(self)"],
+    ("maps", "WorldMap"): ["source(self)", "target(self)", "image(self, sort, thing)", "images(self)"],
 }
 OPERATORS = {
     ("relations", "Relation"): ["contains", "len", "eq", "or", "and", "sub", "invert", "rshift", "le", "lt", "ge", "gt"],
@@ -75,6 +91,8 @@ OPERATORS = {
     ("worlds", "World"): ["eq"],
     ("books", "Book"): ["len", "eq"],
     ("known", "Known"): [],
+    ("stores", "Store"): ["eq", "len"],
+    ("maps", "WorldMap"): ["rshift", "eq"],
 }
 
 
