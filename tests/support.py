@@ -7,7 +7,9 @@ import unittest
 from pairlaws.books import Book
 from pairlaws.errors import NameMissing, PairError
 from pairlaws.frames import Frame
+from pairlaws.maps import same_map
 from pairlaws.relations import Relation
+from pairlaws.stores import Store
 from pairlaws.worlds import World
 
 
@@ -79,7 +81,8 @@ NOT_WORDS = [None, 0, 1, True, False, "", "A", "1a", "a b", "a_", "abcdefghijklm
              ("a",), (), ["a"], [], {"a": "b"}, {}, 10 ** 30]
 ODD_VALUES = NOT_WORDS + [RELATION, PairError(), ("a", "b"), ["a", "b"], [("a", "b")], ([], []), (["a"], ["b"]),
                           [["a"]], ({}, {}), ("row", None), ("ring",), (1, 2, 3), [[], {}], (RELATION, RELATION),
-                          SMALL_WORLD, SMALL_WORLD.frame(), Book(SMALL_WORLD.frame(), [])]
+                          SMALL_WORLD, SMALL_WORLD.frame(), Book(SMALL_WORLD.frame(), []), same_map(SMALL_WORLD),
+                          Store(Book(SMALL_WORLD.frame(), []), SMALL_WORLD, {})]
 
 
 def relations_between(sources, targets):
