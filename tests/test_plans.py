@@ -6,8 +6,10 @@ from pairlaws.errors import BadPlan, BadTerm, TooMany
 from pairlaws.forms import size
 from pairlaws.frames import Frame
 from pairlaws.plans import compiled, first_wrong, plan_term
+from pairlaws.terms import ends_of
+from tests.casesupport import seeded
 from tests.support import ODD_VALUES, SMALL_WORLD, Case
-from tests.termsupport import FRAME, R, S, T, U, below, chance_terms, nested
+from tests.termsupport import FRAME, PARTS_BELOW, R, S, T, U, below, chance_terms, nested
 
 RS = ("then", R, S)
 # Rows over FRAME that are allowed behind the rows of START.
@@ -98,6 +100,33 @@ class FirstWrong(Case):
         self.assertEqual(first_wrong(FRAME, (R, ("rest", 2), S)), 1)
         self.assertEqual(first_wrong(FRAME, (R, ("turned", 0), ("joined", 0, 1))), 2)
         self.assertIs(first_wrong(FRAME, (R, ("turned", 0), ("then", 0, 1), ("closed", 2))), None)
+
+    def test_as_it_is_meant(self):
+        # A row is allowed if its form is right and the term that it stands for has ends.
+        chance = seeded(222)
+        found = {}
+        for _ in range(400):
+            rows, terms = [], []
+            right = None
+            for number in range(chance.randint(1, 6)):
+                word = chance.choice(sorted(PARTS_BELOW))
+                count = PARTS_BELOW[word]
+                told = [chance.choice("rstuab")] if word == "letter" else [chance.choice("aabbr") for _ in range({"none": 2, "all": 2}.get(word, 1))]
+                row = (word, *[chance.randint(0, number) for _ in range(count)]) if count else (word, *told)
+                rows.append(row)
+                if right is None and (count == 0 or all([at < number for at in row[1:]])):
+                    terms.append((word, *[terms[at] for at in row[1:]]) if count else row)
+                    try:
+                        ends_of(FRAME, terms[-1])
+                    except BadTerm:
+                        right = number
+                elif right is None:
+                    right = number
+            found[right] = True
+            self.assertEqual(first_wrong(FRAME, tuple(rows)), right)
+            if right is None:
+                self.assertEqual(plan_term(FRAME, tuple(rows)), terms[-1])
+        self.assertGreater(len(found), 4)
 
     def test_other_frames(self):
         self.assertEqual(first_wrong(Frame([], [], []), (R,)), 0)
